@@ -347,38 +347,7 @@ func TestCompileSharesNothing(t *testing.T) {
 	told := func(c impl.Chunk) string { return fmt.Sprintf("%+v", c) }
 	c, _ := impl.Compile(source)
 	want := told(c)
-	for i, p := range c.Protos {
-		for j := range p.Ups[:cap(p.Ups)] {
-			p.Ups[:cap(p.Ups)][j].Index = 1000*i + j
-		}
-		for j := range p.Consts[:cap(p.Consts)] {
-			p.Consts[:cap(p.Consts)][j].Int = 1000*i + j
-		}
-		for j := range p.Code[:cap(p.Code)] {
-			p.Code[:cap(p.Code)][j].A = 1000*i + j
-		}
-		for j := range p.Lines[:cap(p.Lines)] {
-			p.Lines[:cap(p.Lines)][j] = 1000*i + j
-		}
-	}
-	for i, p := range c.Protos {
-		same := true
-		for j, up := range p.Ups[:cap(p.Ups)] {
-			same = same && up.Index == 1000*i+j
-		}
-		for j, k := range p.Consts[:cap(p.Consts)] {
-			same = same && k.Int == 1000*i+j
-		}
-		for j, instr := range p.Code[:cap(p.Code)] {
-			same = same && instr.A == 1000*i+j
-		}
-		for j, line := range p.Lines[:cap(p.Lines)] {
-			same = same && line == 1000*i+j
-		}
-		if !same {
-			t.Errorf("lists of function %d share memory with others", i)
-		}
-	}
+	checkOwnLists(t, c)
 	clear(c.Protos[:cap(c.Protos)])
 	again, _ := impl.Compile(source)
 	third, _ := impl.Compile(source)
