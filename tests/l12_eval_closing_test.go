@@ -11,6 +11,7 @@ const closer = `local function c(k, act) return setmetatable({}, {__close = func
 
 // Promise 21: each way out of a block.
 func TestEvaluateClosingWaysOut(t *testing.T) {
+	t.Parallel()
 	for _, r := range [][2]string{
 		{"do local a <close> = c('a') write('in ') end write('out')", "in a(nil) out"},
 		{"do local a <close> = c('a') local b <close> = c('b') write('in ') end write('out')", "in b(nil) a(nil) out"},
@@ -69,6 +70,7 @@ func TestEvaluateClosingWaysOut(t *testing.T) {
 }
 
 func TestEvaluateClosingValues(t *testing.T) {
+	t.Parallel()
 	for _, r := range [][2]string{
 		{"do local a <close> = nil local b <close> = false local d <close> = c('d') end", "d(nil) "},
 		{"do local a <close> end write('out')", "out"},
@@ -115,6 +117,7 @@ func TestEvaluateClosingValues(t *testing.T) {
 
 // If closing fails, the rest is closed with that error.
 func TestEvaluateClosingThatFails(t *testing.T) {
+	t.Parallel()
 	const failing = closer + "local function f(k) return c(k, function() error(k .. '!', 0) end) end "
 	for _, r := range [][2]string{
 		{"print(pcall(function() local a <close> = c('a') local b <close> = f('b') local d <close> = c('d') end))", "d(nil) b(nil) a(b!) false\tb!\n"},
@@ -162,6 +165,7 @@ func TestEvaluateClosingThatFails(t *testing.T) {
 
 // What is returned is known ahead of closing.
 func TestEvaluateClosingBehindReturn(t *testing.T) {
+	t.Parallel()
 	for _, r := range [][2]string{
 		{"local function f() local x = 1 local a <close> = c('a', function() x = 2 end) return x end print(f())", "a(nil) 1\n"},
 		{"local function f() local x = {1} local a <close> = c('a', function() x[1] = 2 x = nil end) return x, x[1] end local t, n = f() print(t[1], n)", "a(nil) 2\t1\n"},
@@ -179,6 +183,7 @@ func TestEvaluateClosingBehindReturn(t *testing.T) {
 
 // The line of what closes is seen as the line of the call that is one further out.
 func TestEvaluateClosingLines(t *testing.T) {
+	t.Parallel()
 	const ahead = "local function c(k) return setmetatable({}, {__close = function(o, e) local ok, at = pcall(function() error('', 4) end) write(k, at) end}) end "
 	const plainAhead = "local function c() return setmetatable({}, {__close = function(o, e) error('e', 2) end}) end "
 	for _, r := range [][2]string{
@@ -227,6 +232,7 @@ func TestEvaluateClosingLines(t *testing.T) {
 
 // A closing may wait, and go on where it was.
 func TestEvaluateClosingThatWaits(t *testing.T) {
+	t.Parallel()
 	const waiting = closer + "local function w(k) return c(k, function(o, e) write('[', rawtostring(coroutine.yield(k)), '] ') end) end local function drive(co, ...) while true do local v = table.pack(coroutine.resume(co, ...)) " +
 		"for i = 1, v.n do write(rawtostring(v[i]), ' ') end if coroutine.status(co) == 'dead' then return end end end "
 	for _, r := range [][2]string{
@@ -255,6 +261,7 @@ func TestEvaluateClosingThatWaits(t *testing.T) {
 
 // Below a protected call that fails nothing of the callers is changed.
 func TestEvaluateClosingBelowProtectedCalls(t *testing.T) {
+	t.Parallel()
 	for _, r := range [][2]string{
 		{"local a <close> = c('a') local x = 1 pcall(function() local b <close> = c('b') x = 2 error('e', 0) end) write(x, ' ')", "b(e) 2 a(nil) "},
 		{"for i = 1, 2 do local a <close> = c(i) pcall(function() for j = 1, 2 do local b <close> = c('b' .. j) error('e', 0) end end) write('on ') end", "b1(e) on 1(nil) b1(e) on 2(nil) "},

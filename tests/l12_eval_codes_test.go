@@ -26,6 +26,7 @@ func limitCases() []struct {
 }
 
 func TestEvaluateLimits(t *testing.T) {
+	t.Parallel()
 	fault := impl.Outcome{Code: impl.OutFault, Fault: impl.Fault{Code: impl.FaultToken, Line: 1, At: 3}}
 	wrong := impl.Outcome{Code: impl.OutLimits}
 	check := func(source string, limits impl.Limits, want impl.Outcome) {
@@ -85,6 +86,7 @@ func faulty() map[int]string {
 }
 
 func TestEvaluateFaults(t *testing.T) {
+	t.Parallel()
 	texts := faulty()
 	if len(texts) != 20 {
 		t.Errorf("%d kinds of faults", len(texts))
@@ -119,6 +121,7 @@ func TestEvaluateFaults(t *testing.T) {
 
 // What is told beside each code.
 func TestEvaluateTellsBesideCodes(t *testing.T) {
+	t.Parallel()
 	const ahead = "write('ab') local s = 'x' .. 'y' "
 	limits := plenty()
 	comesTo(t, ahead+"return 1, nil, s", limits, impl.Outcome{Output: "ab", Results: []string{"1", "nil", "xy"}, Ticks: 4, Made: 2})
@@ -140,6 +143,7 @@ func TestEvaluateTellsBesideCodes(t *testing.T) {
 
 // Where two would fit, the first that is met counts.
 func TestEvaluateFirstCode(t *testing.T) {
+	t.Parallel()
 	limits := plenty()
 	limits.Steps, limits.Output = 2, 3
 	comesTo(t, "write('ab') write('cd')", limits, impl.Outcome{Code: impl.OutBudget, Output: "ab", Ticks: 2})
@@ -156,6 +160,7 @@ func TestEvaluateFirstCode(t *testing.T) {
 }
 
 func TestEvaluateMadeAtItsEnd(t *testing.T) {
+	t.Parallel()
 	const just = "for i = 1, 40 do local s = ('x'):rep(50000) end "
 	const fewer = "for i = 1, 39 do local s = ('x'):rep(50000) end "
 	comesTo(t, just+"return 1", plenty(), impl.Outcome{Results: []string{"1"}, Ticks: 83, Made: 2000000})
@@ -187,6 +192,7 @@ func TestEvaluateMadeAtItsEnd(t *testing.T) {
 }
 
 func TestEvaluateOutputAtItsEnd(t *testing.T) {
+	t.Parallel()
 	limits := plenty()
 	limits.Output = 5
 	comesTo(t, "write('abc') write('de') write() write('') return 1", limits, impl.Outcome{Output: "abcde", Results: []string{"1"}, Ticks: 6})
@@ -242,6 +248,7 @@ func wraps() map[string]string {
 
 // Nothing catches an end of the run; nothing is closed by it, and what was put out ahead of it stays.
 func TestEvaluateEndsWhateverRuns(t *testing.T) {
+	t.Parallel()
 	for _, c := range []struct {
 		code      int
 		statement string

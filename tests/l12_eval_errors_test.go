@@ -20,6 +20,7 @@ func preludePlace(t *testing.T, text string) string {
 }
 
 func TestEvaluateErrorLevels(t *testing.T) {
+	t.Parallel()
 	for _, r := range [][2]string{
 		{"error('e', 0)", "e"},
 		{"\nerror('e')", "2: e"},
@@ -103,6 +104,7 @@ func TestEvaluateErrorLevels(t *testing.T) {
 }
 
 func TestEvaluateProtectedCalls(t *testing.T) {
+	t.Parallel()
 	eachLine(t, "", `
 		pcall(type, 1) => true number
 		pcall(function() end) => true
@@ -162,6 +164,7 @@ func TestEvaluateProtectedCalls(t *testing.T) {
 
 // Messages of primitives have the place of the caller.
 func TestEvaluatePlacesOfPrimitives(t *testing.T) {
+	t.Parallel()
 	for _, r := range [][2]string{
 		{"\ntype()", "2: bad argument #1 to 'type' (value expected)"},
 		{"local x = 1 +\nrawlen\n()", "3: bad argument #1 to 'rawlen' (table expected, got no value)"},

@@ -28,6 +28,7 @@ func checkDepth(t *testing.T, source string, frames, depth int, message string) 
 
 // Promise 22: recursion goes to just the limit.
 func TestEvaluateFramesOfRecursion(t *testing.T) {
+	t.Parallel()
 	for _, frames := range []int{2, 3, 10, 199, 200} {
 		// The text itself takes one.
 		checkDepth(t, "local function f(n) if n > 1 then f(n - 1) else write('in ') end end f(D) write('out')", frames, frames-1, "1: stack overflow")
@@ -67,6 +68,7 @@ func TestEvaluateFramesOfRecursion(t *testing.T) {
 }
 
 func TestEvaluateFramesOfProtectedCalls(t *testing.T) {
+	t.Parallel()
 	limits := framed(1)
 	comesTo(t, "local ok = pcall(type, 1)", limits, impl.Outcome{Code: impl.OutError, Error: "1: stack overflow", Ticks: 2})
 	comesTo(t, "return pcall(type, 1)", limits, impl.Outcome{Code: impl.OutError, Error: "1: stack overflow", Ticks: 2})
@@ -105,6 +107,7 @@ func TestEvaluateFramesOfProtectedCalls(t *testing.T) {
 
 // Each thread counts for itself.
 func TestEvaluateFramesOfThreads(t *testing.T) {
+	t.Parallel()
 	for _, frames := range []int{1, 2, 10, 200} {
 		source := "local n = 0 local function f() n = n + 1 return 1 + f() end local ok, e = coroutine.resume(coroutine.create(f)) return n, ok, e"
 		got := ran(t, source, framed(frames))
@@ -127,6 +130,7 @@ func TestEvaluateFramesOfThreads(t *testing.T) {
 
 // Calls in the last place take no frame.
 func TestEvaluateFramesOfLastCalls(t *testing.T) {
+	t.Parallel()
 	for _, frames := range []int{1, 2, 200} {
 		limits := framed(frames)
 		limits.Steps = 5000

@@ -9,6 +9,7 @@ import (
 )
 
 func TestEvaluateBeginning(t *testing.T) {
+	t.Parallel()
 	const list = "local function list(t) for k, v in next, t do write(k, '=', rawtostring(v), ' ') end end "
 	builtins := func(part, names string) string {
 		text := ""
@@ -34,6 +35,7 @@ func TestEvaluateBeginning(t *testing.T) {
 }
 
 func TestEvaluateShows(t *testing.T) {
+	t.Parallel()
 	for _, name := range strings.Fields(runOrder) {
 		gives(t, "return rawtostring("+name+"), tostring("+name+"), "+name, strings.Join([]string{"builtin: " + name, "builtin: " + name, "builtin: " + name}, " "))
 	}
@@ -94,6 +96,7 @@ var behindUlt = map[string][]string{
 
 // Each primitive with ever more arguments, and each kind of value at each place; the model knows what is wrong.
 func TestEvaluateArguments(t *testing.T) {
+	t.Parallel()
 	if len(behindUlt) != len(runForms) {
 		t.Fatal("some primitive isn't looked at")
 	}
@@ -123,6 +126,7 @@ func TestEvaluateArguments(t *testing.T) {
 }
 
 func TestEvaluateTablePrimitives(t *testing.T) {
+	t.Parallel()
 	eachLine(t, "", `
 		rawlen({1, 2, 3}), rawlen({}), rawlen('abc'), rawlen(''), rawlen({1, nil, 3}) => 3 0 3 0 1
 		rawlen(setmetatable({1}, {__len = function() return 9 end})) => 1
@@ -224,6 +228,7 @@ func TestEvaluateTablePrimitives(t *testing.T) {
 
 // The order of entries is that of their first coming, for as long as they aren't taken out.
 func TestEvaluateOrderOfEntries(t *testing.T) {
+	t.Parallel()
 	const ahead = "local function list(t) for k, v in next, t do write(k, v, ' ') end write('\\n') end local function fill(n) local t = {} for i = 1, n do t['k' .. i] = i end return t end "
 	for _, r := range [][2]string{
 		{"list({a = 1, 5, b = 2, 6, [10] = 3, c = 4})", "a1 15 b2 26 103 c4 \n"},
@@ -247,6 +252,7 @@ func TestEvaluateOrderOfEntries(t *testing.T) {
 
 // Lengths, held against a plain account of what stands at which integer.
 func TestEvaluateLengths(t *testing.T) {
+	t.Parallel()
 	row := words(12000)
 	for round := range 40 {
 		account := map[int]int{}
@@ -276,6 +282,7 @@ func TestEvaluateLengths(t *testing.T) {
 }
 
 func TestEvaluatePreludeBasics(t *testing.T) {
+	t.Parallel()
 	for _, r := range [][2]string{
 		{"print() print(nil) print(1, 'a', nil, true, 2.0) print(nil, nil)", "\nnil\n1\ta\tnil\ttrue\t2.0\nnil\tnil\n"},
 		{"print(setmetatable({}, {__tostring = function() return 'mine' end}), {}, print)", "mine\ttable: 8\tfunction: 3\n"},
@@ -301,6 +308,7 @@ func TestEvaluatePreludeBasics(t *testing.T) {
 }
 
 func TestEvaluatePreludeStrings(t *testing.T) {
+	t.Parallel()
 	for _, r := range [][2]string{
 		{"for w in ('one two  three'):gmatch('%a+') do write(w, '.') end", "one.two.three."},
 		{"for k, v in ('a=1, b=2'):gmatch('(%w)=(%w)') do write(k, v, ' ') end", "a1 b2 "},
@@ -330,6 +338,7 @@ func TestEvaluatePreludeStrings(t *testing.T) {
 }
 
 func TestEvaluatePreludeTables(t *testing.T) {
+	t.Parallel()
 	for _, r := range [][2]string{
 		{"local t = table.pack() print(t.n, #t) t = table.pack(1, nil, 3, nil) print(t.n, t[1], t[2], t[3], next(t))", "0\t0\n4\t1\tnil\t3\tn\t4\n"},
 		{"print(table.concat({1, 2, 3}), table.concat({1, 2, 3}, ', '), table.concat({1, 2, 3}, '-', 2), table.concat({1, 2, 3}, '-', 2, 2), table.concat({}, 'x'), table.concat({1}, 'x', 2))", "123\t1, 2, 3\t2-3\t2\t\t\n"},

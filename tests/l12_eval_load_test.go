@@ -12,6 +12,7 @@ import (
 func bracketed(text string) string { return "[=====[\n" + text + "]=====]" }
 
 func TestEvaluateLoadFaults(t *testing.T) {
+	t.Parallel()
 	for code, source := range faulty() {
 		if len(source) > 30000 {
 			continue
@@ -52,6 +53,7 @@ func TestEvaluateLoadFaults(t *testing.T) {
 }
 
 func TestEvaluateLoadedTexts(t *testing.T) {
+	t.Parallel()
 	for _, r := range [][2]string{
 		{"print(load('return 1, nil, \"x\"')())", "1\tnil\tx\n"},
 		{"print(load('')())", "\n"},
@@ -98,6 +100,7 @@ var alone = []string{
 
 // Promise 30: a text loaded by a program and called does what it does by itself.
 func TestEvaluateLoadedAsAlone(t *testing.T) {
+	t.Parallel()
 	for _, source := range append(alone, modestTexts(300)...) {
 		checkLoaded(t, source)
 	}

@@ -28,6 +28,7 @@ func eachFor(t *testing.T, lines string) {
 }
 
 func TestEvaluateForOfIntegers(t *testing.T) {
+	t.Parallel()
 	eachFor(t, `
 		1, 3 => 1 2 3
 		1, 1 => 1
@@ -63,6 +64,7 @@ func TestEvaluateForOfIntegers(t *testing.T) {
 }
 
 func TestEvaluateForOfFloatLimits(t *testing.T) {
+	t.Parallel()
 	eachFor(t, `
 		1, 3.0 => 1 2 3
 		1, 2.5 => 1 2
@@ -99,6 +101,7 @@ func TestEvaluateForOfFloatLimits(t *testing.T) {
 }
 
 func TestEvaluateForOfFloats(t *testing.T) {
+	t.Parallel()
 	eachFor(t, `
 		1.0, 3 => 1.0 2.0 3.0
 		1, 3, 1.0 => 1.0 2.0 3.0
@@ -130,6 +133,7 @@ func TestEvaluateForOfFloats(t *testing.T) {
 }
 
 func TestEvaluateForOfWrongValues(t *testing.T) {
+	t.Parallel()
 	eachFor(t, `
 		nil, 2 => ! 'for' start must be a number
 		'1', 2 => ! 'for' start must be a number
@@ -157,6 +161,7 @@ func TestEvaluateForOfWrongValues(t *testing.T) {
 }
 
 func TestEvaluateForIn(t *testing.T) {
+	t.Parallel()
 	for _, c := range [][2]string{
 		{"for k, v in next, {10, 20, x = 30} do write(k, '=', v, ' ') end", "1=10 2=20 x=30 "},
 		{"for k in next, {} do write('no') end", ""},
@@ -194,6 +199,7 @@ func TestEvaluateForIn(t *testing.T) {
 }
 
 func TestEvaluateGotoAndBreak(t *testing.T) {
+	t.Parallel()
 	for _, c := range [][2]string{
 		{"goto a write('no') ::a:: write('on')", "on"},
 		{"do goto a end write('no') ::a:: write('on')", "on"},
@@ -229,6 +235,7 @@ func TestEvaluateGotoAndBreak(t *testing.T) {
 
 // Promise 31: closures share the variables they name, each turn of a loop having its own.
 func TestEvaluateVariables(t *testing.T) {
+	t.Parallel()
 	for _, c := range [][2]string{
 		{"local x = 1 local function get() return x end local function set(v) x = v end set(2) write(get(), x) x = 3 write(get())", "223"},
 		{"local function counter() local n = 0 return function() n = n + 1 return n end end local a, b = counter(), counter() write(a(), a(), b(), a())", "1213"},

@@ -65,6 +65,7 @@ func typed() map[string]string {
 }
 
 func TestEvaluateMessagesOfTypes(t *testing.T) {
+	t.Parallel()
 	var rows [][2]string
 	add := func(source, message string) { rows = append(rows, [2]string{source, "! " + message}) }
 	for v, kind := range typed() {
@@ -127,6 +128,7 @@ func TestEvaluateMessagesOfTypes(t *testing.T) {
 }
 
 func TestEvaluateRawOperations(t *testing.T) {
+	t.Parallel()
 	eachCaught(t, "local t, u, f, co = {1, 2, x = 5, [1.5] = 'h', [true] = 'b', [2^53] = 'big'}, {}, function() end, coroutine.running() t[t], t[f], t[print], t[co], t[type] = 1, 2, 3, 4, 5\n",
 		caughtLines(t, `
 		t[1], t[1.0], t['1'], t.x, t['x'], t.y => 1 1 nil 5 5 nil
@@ -196,6 +198,7 @@ local function right(...) return "right " .. told(...), "more" end
 `
 
 func TestEvaluateEntriesOfBoth(t *testing.T) {
+	t.Parallel()
 	var rows [][2]string
 	add := func(source, want string) { rows = append(rows, [2]string{source, want + " "}) }
 	fail := func(source, message string) { rows = append(rows, [2]string{source, "! " + message}) }
@@ -243,6 +246,7 @@ func TestEvaluateEntriesOfBoth(t *testing.T) {
 }
 
 func TestEvaluateEntriesOfComparisons(t *testing.T) {
+	t.Parallel()
 	const ahead = metaAhead + `local log = ""
 local function note(v) return function(...) log = log .. told(...) return v, 1 end end
 local function said() local s = log log = "" return s == "" and "-" or s end
@@ -287,6 +291,7 @@ local function said() local s = log log = "" return s == "" and "-" or s end
 }
 
 func TestEvaluateEntriesOfOne(t *testing.T) {
+	t.Parallel()
 	eachCaught(t, metaAhead, caughtLines(t, `
 		#with('a', '__len', left) => left 1: a
 		#with('a', '__len', function() end) => nil
@@ -327,6 +332,7 @@ func TestEvaluateEntriesOfOne(t *testing.T) {
 }
 
 func TestEvaluateNewIndex(t *testing.T) {
+	t.Parallel()
 	for _, c := range [][2]string{
 		{"local t = setmetatable({x = 1}, {__newindex = function(...) print(told(...)) end}) names[t] = 't' t.x = 2 t.y = 3 t.y = nil t[nil] = 4 t[1.0] = 5 print(t.x, t.y)",
 			"3: t y 3\n3: t y nil\n3: t nil 4\n3: t 1.0 5\n2\tnil\n"},
@@ -354,6 +360,7 @@ func TestEvaluateNewIndex(t *testing.T) {
 }
 
 func TestEvaluateChains(t *testing.T) {
+	t.Parallel()
 	const wrap = "local function wrap(n, entry, base) for i = 1, n do base = setmetatable({}, {[entry] = base}) end return base end "
 	eachCaught(t, wrap, caughtLines(t, `
 		wrap(1, '__index', {x = 1}).x, wrap(99, '__index', {x = 2}).x, wrap(100, '__index', {x = 3}).x => 1 2 3
@@ -400,6 +407,7 @@ func TestEvaluateChains(t *testing.T) {
 
 // The line ahead of a message is that of the node, which may stand in another line than its parts.
 func TestEvaluateLines(t *testing.T) {
+	t.Parallel()
 	for _, c := range [][2]string{
 		{"local x = 1\n+\n{}", "2: attempt to do arithmetic on a table value"},
 		{"local x = {}\n\n+ 1\n+ 2", "3: attempt to do arithmetic on a table value"},

@@ -29,7 +29,9 @@ type runThread struct {
 }
 
 func (m *runModel) newThread(f any) *runThread {
-	return &runThread{model: m, number: m.number("thread"), status: "suspended", job: f}
+	th := &runThread{model: m, number: m.number("thread"), status: "suspended", job: f}
+	m.heap.enter(th)
+	return th
 }
 
 // goOn lets another thread go on until it waits or ends, and tells whether it has ended.
@@ -45,7 +47,11 @@ func (th *runThread) goOn(other *runThread, values []any) (given []any, ended bo
 	}
 	th.status, other.status = "normal", "running"
 	m.resumed = append(m.resumed, other)
+	m.heap.tell(other, impl.EventResume, 0)
 	given, waits := other.next()
+	if !waits && (other.out == nil || other.out.kind != outByEnd) {
+		m.heap.tell(other, impl.EventEnd, 0)
+	}
 	m.resumed = m.resumed[:len(m.resumed)-1]
 	th.status, other.status = "running", "suspended"
 	if !waits {
@@ -62,6 +68,10 @@ func (th *runThread) wait(values []any) ([]any, *wayOut) {
 	if th.closing {
 		return nil, th.fails("attempt to yield from a coroutine that is closed")
 	}
+	if th.model.heap.finalizes() {
+		return nil, th.fails("attempt to yield from a finalizer")
+	}
+	th.model.heap.tell(th, impl.EventYield, 0)
 	if !th.hand(values) {
 		return nil, &wayOut{kind: outByDrop}
 	}
@@ -176,6 +186,9 @@ func (th *runThread) primitive(name string, args []any) ([]any, *wayOut) {
 	case "load":
 		return th.load(runShown(some[0]))
 	case "collectgarbage":
+		if th.model.heap != nil {
+			return th.collectNow(some[0], some[1])
+		}
 		return th.collect(some[0])
 	case "coroutine.create":
 		return []any{th.model.newThread(args[0])}, nil
@@ -188,7 +201,7 @@ func (th *runThread) primitive(name string, args []any) ([]any, *wayOut) {
 	case "coroutine.running":
 		return []any{th, th == th.model.main}, nil
 	case "coroutine.isyieldable":
-		return []any{th != th.model.main && !th.closing}, nil
+		return []any{th != th.model.main && !th.closing && !th.model.heap.finalizes()}, nil
 	case "coroutine.close":
 		return th.close(args[0].(*runThread))
 	}
@@ -229,6 +242,7 @@ func (th *runThread) tablePrimitive(name string, args, some []any) ([]any, *wayO
 			return nil, th.fails("cannot change a protected metatable")
 		}
 		t.meta, _ = some[1].(*runTable)
+		t.heap.newMeta(t)
 		return []any{t}, nil
 	}
 	return th.unpack(t, some[1], some[2])
@@ -300,7 +314,7 @@ func (th *runThread) raise(v, level any) *wayOut {
 }
 
 func (th *runThread) protect(args []any) ([]any, *wayOut) {
-	if len(th.calls) >= th.model.limits.Frames {
+	if th.isFull() {
 		return nil, th.fails("stack overflow")
 	}
 	th.calls = append(th.calls, &runCall{thread: th})
@@ -448,6 +462,9 @@ func (th *runThread) given(values []any) ([]any, *wayOut) {
 }
 
 func (m *runModel) textFunction(source string) *runFunction {
+	if m.heap != nil {
+		return m.chunkFunction(chunkOf(source))
+	}
 	tree, _ := impl.Parse(source)
 	return m.newFunction(tree.Nodes, len(tree.Nodes)-1, nil)
 }
@@ -458,8 +475,8 @@ const runOrder = "type rawtostring tonumber rawequal rawlen select rawget rawset
 	"math.floor math.abs math.tointeger math.type math.ult table.unpack coroutine.create coroutine.resume coroutine.yield coroutine.status coroutine.running " +
 	"coroutine.isyieldable coroutine.close"
 
-func newRunModel(limits impl.Limits) *runModel {
-	m := &runModel{numbers: map[string]int{}}
+func newRunModel(limits impl.Limits, heap *runHeap) *runModel {
+	m := &runModel{numbers: map[string]int{}, heap: heap}
 	m.globals = m.newTable()
 	parts := map[string]*runTable{}
 	for _, name := range []string{"string", "math", "table", "coroutine"} {
@@ -490,8 +507,13 @@ func newRunModel(limits impl.Limits) *runModel {
 
 // modelEvaluate is Evaluate of a source that has no fault, with limits that are right.
 func modelEvaluate(source string, limits impl.Limits) impl.Outcome {
-	m := newRunModel(limits)
-	values, out := m.main.call(m.textFunction(source), nil)
+	m := newRunModel(limits, nil)
+	return m.tells(m.textFunction(source))
+}
+
+// tells calls the function of a text, and tells what has come of it.
+func (m *runModel) tells(text *runFunction) impl.Outcome {
+	values, out := m.main.call(text, nil)
 	for _, th := range m.begun {
 		th.stop()
 	}

@@ -19,13 +19,18 @@ type runTable struct {
 	at           map[any]int
 	meta         *runTable
 	number       int
+	heap         *runHeap // none below the evaluator
+	mode         int
 }
 
+// runFunction is a function of a tree, or one of a chunk with its cells.
 type runFunction struct {
 	nodes  []impl.Node
 	node   int
 	seen   *runScope
 	number int
+	code   *runCode
+	cells  []*runCell
 }
 
 // runScope is a variable and, behind it, those that were seen where it was declared.
@@ -43,6 +48,8 @@ type runCall struct {
 	closure *runFunction // none of a pcall
 	line    int
 	dots    []any
+	final   bool // it is of a finalizer
+	machineCall
 }
 
 // wayOut is how something ends early.
@@ -76,6 +83,7 @@ type runModel struct {
 	main           *runThread
 	resumed        []*runThread // inside each other, the main one first
 	begun          []*runThread
+	heap           *runHeap // none below the evaluator
 }
 
 func (m *runModel) number(kind string) int {
@@ -84,7 +92,9 @@ func (m *runModel) number(kind string) int {
 }
 
 func (m *runModel) newTable() *runTable {
-	return &runTable{at: map[any]int{}, number: m.number("table")}
+	t := &runTable{at: map[any]int{}, number: m.number("table"), heap: m.heap}
+	m.heap.enter(t)
+	return t
 }
 
 func (m *runModel) newFunction(nodes []impl.Node, node int, seen *runScope) *runFunction {
@@ -113,6 +123,7 @@ func (t *runTable) set(k, v any) {
 	k = runKey(k)
 	if place, has := t.at[k]; has {
 		t.values[place] = v
+		t.heap.touch(t, 0)
 		return
 	}
 	if v == nil {
@@ -129,6 +140,7 @@ func (t *runTable) set(k, v any) {
 	}
 	t.at[k] = len(t.keys)
 	t.keys, t.values = append(t.keys, k), append(t.values, v)
+	t.heap.touch(t, 40)
 }
 
 func (t *runTable) shrink() {
@@ -434,6 +446,17 @@ func (th *runThread) callee(f any, args []any) (any, []any, *wayOut) {
 	return f, args, nil
 }
 
+// isFull tells whether as many closures and pcalls run as may.
+func (th *runThread) isFull() bool {
+	finals := 0
+	for _, c := range th.calls {
+		if c.final {
+			finals++
+		}
+	}
+	return len(th.calls)-finals >= th.model.limits.Frames
+}
+
 func (th *runThread) call(f any, args []any) ([]any, *wayOut) {
 	f, args, out := th.callee(f, args)
 	if out != nil {
@@ -443,14 +466,19 @@ func (th *runThread) call(f any, args []any) ([]any, *wayOut) {
 		return th.primitive(string(name), args)
 	}
 	closure := f.(*runFunction)
-	for {
-		if len(th.calls) >= th.model.limits.Frames {
+	for kind := impl.EventCall; ; kind = impl.EventTail {
+		if th.isFull() {
 			return nil, th.fails("stack overflow")
 		}
 		if out := th.model.step(); out != nil {
 			return nil, out
 		}
-		out := th.body(closure, args)
+		var out *wayOut
+		if closure.code != nil {
+			out = th.carryOut(closure, args, kind)
+		} else {
+			out = th.body(closure, args)
+		}
 		if out == nil {
 			return nil, nil
 		}

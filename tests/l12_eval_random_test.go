@@ -324,7 +324,7 @@ func TestEvaluateOfRandomPrograms(t *testing.T) {
 	t.Parallel()
 	var lock sync.Mutex
 	codes, faults, outputs := map[int]int{}, 0, 0
-	texts := grownRuns(6000, true)
+	texts := grownRuns(5000, true)
 	var group sync.WaitGroup
 	const workers = 8
 	for w := range workers {
@@ -351,6 +351,7 @@ func TestEvaluateOfRandomPrograms(t *testing.T) {
 				if i%5 == 0 && got.Code != impl.OutBudget {
 					checkBudget(t, texts[i], limits, got)
 				}
+				checkExec(t, texts[i], limits, got)
 				lock.Lock()
 				codes[got.Code]++
 				outputs += len(got.Output)

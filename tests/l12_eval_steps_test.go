@@ -25,6 +25,7 @@ func eachSteps(t *testing.T, lines string) {
 }
 
 func TestEvaluateStepsOfStatements(t *testing.T) {
+	t.Parallel()
 	eachSteps(t, `
 		=> 0
 		;;; => 0
@@ -63,6 +64,7 @@ func TestEvaluateStepsOfStatements(t *testing.T) {
 }
 
 func TestEvaluateStepsOfLoops(t *testing.T) {
+	t.Parallel()
 	eachSteps(t, `
 		while false do end => 1
 		while false do x = 1 end => 1
@@ -106,6 +108,7 @@ func TestEvaluateStepsOfLoops(t *testing.T) {
 }
 
 func TestEvaluateStepsOfCalls(t *testing.T) {
+	t.Parallel()
 	eachSteps(t, `
 		local function f() end f() => 3
 		local function f() end f() f() => 5
@@ -140,6 +143,7 @@ func TestEvaluateStepsOfCalls(t *testing.T) {
 }
 
 func TestEvaluateStepsOfMetatables(t *testing.T) {
+	t.Parallel()
 	const ahead = "local f = function() end local t = setmetatable({}, {__index = f, __newindex = f, __call = f, __add = f, __unm = f, __concat = f, __len = f, " +
 		"__eq = f, __lt = f, __le = f, __close = f}) "
 	for _, line := range strings.Split(`x = t.x
@@ -183,6 +187,7 @@ func TestEvaluateStepsOfMetatables(t *testing.T) {
 
 // A call that fails ahead of its step takes none.
 func TestEvaluateStepsOfFailures(t *testing.T) {
+	t.Parallel()
 	eachSteps(t, `
 		local function f() end pcall(function() f(1, table.unpack({}, 1, 1000)) end) => 4
 		local function f() end pcall(function() return f(1, table.unpack({}, 1, 1000)) end) => 4
@@ -221,6 +226,7 @@ func TestEvaluateStepsOfFailures(t *testing.T) {
 
 // Promise 23 at each number of steps that a run can have.
 func TestEvaluateStepByStep(t *testing.T) {
+	t.Parallel()
 	source := `local function c(k) return setmetatable({}, {__close = function(o, e) write(k, e or "-") end}) end
 		local co = coroutine.wrap(function(a) local x <close> = c("x") for i = 1, 3 do write(i) a = a + coroutine.yield(a) end return a end)
 		write(co(1), co(2), co(3), co(4))

@@ -24,7 +24,7 @@ func outcomeText(o impl.Outcome) string {
 		o.Code, o.Fault, short(o.Output), short(o.Error), o.Results, o.Ticks, o.Made, o.Live, o.Bytes)
 }
 
-// ran is the outcome of a text without a fault, held against a second run, the model, and promise 23.
+// ran is the outcome of a text without a fault, held against a second run, the model, the machine, and promise 23.
 func ran(t *testing.T, source string, limits impl.Limits) impl.Outcome {
 	t.Helper()
 	got := impl.Evaluate(source, limits)
@@ -40,6 +40,7 @@ func ran(t *testing.T, source string, limits impl.Limits) impl.Outcome {
 	if got.Code != impl.OutBudget {
 		checkBudget(t, source, limits, got)
 	}
+	checkExec(t, source, limits, got)
 	return got
 }
 

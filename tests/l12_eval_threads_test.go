@@ -10,6 +10,7 @@ import (
 const threads = "local create, resume, yield, status, running, close, wrap, isyieldable = coroutine.create, coroutine.resume, coroutine.yield, coroutine.status, coroutine.running, coroutine.close, coroutine.wrap, coroutine.isyieldable "
 
 func TestEvaluateThreadValues(t *testing.T) {
+	t.Parallel()
 	for _, r := range [][2]string{
 		{"local co = create(function(...) print('in', ...) print('back', yield(1, 2)) return 3, 4 end) print(resume(co, 'a', 'b')) print(resume(co, 'c')) print(resume(co))",
 			"in\ta\tb\ntrue\t1\t2\nback\tc\ntrue\t3\t4\nfalse\tcannot resume a dead coroutine\n"},
@@ -37,6 +38,7 @@ func TestEvaluateThreadValues(t *testing.T) {
 }
 
 func TestEvaluateThreadStates(t *testing.T) {
+	t.Parallel()
 	for _, r := range [][2]string{
 		{"local co = create(function() end) print(status(co)) resume(co) print(status(co))", "suspended\ndead\n"},
 		{"local co co = create(function() print(status(co)) yield() print(status(co)) end) resume(co) print(status(co)) resume(co) print(status(co))", "running\nsuspended\nrunning\ndead\n"},
@@ -69,6 +71,7 @@ func TestEvaluateThreadStates(t *testing.T) {
 
 // A thread may wait anywhere.
 func TestEvaluateThreadsWaitAnywhere(t *testing.T) {
+	t.Parallel()
 	const drive = threads + "local function drive(f) local co = create(f) local n = 0 while true do local v = table.pack(resume(co, n)) for i = 1, v.n do write(rawtostring(v[i]), ' ') end " +
 		"if status(co) == 'dead' then write('\\n') return end n = n + 1 end end "
 	for _, r := range [][2]string{
@@ -112,6 +115,7 @@ func TestEvaluateThreadsWaitAnywhere(t *testing.T) {
 
 // 100 threads may be resumed inside each other, and one more can't be.
 func TestEvaluateNestedThreads(t *testing.T) {
+	t.Parallel()
 	const nest = threads + "local deepest = 0 local function go(n) deepest = n return resume(create(go), n + 1) end "
 	gives(t, nest+"go(0) return deepest", "100")
 	gives(t, threads+"local function go(n) if n == 0 then return 'end' end local ok, v = resume(create(go), n - 1) return v end return go(100), go(101), go(99)",
@@ -135,6 +139,7 @@ func TestEvaluateNestedThreads(t *testing.T) {
 
 // Promise 20: threads resumed in any order go on each where it was.
 func TestEvaluateThreadsInAnyOrder(t *testing.T) {
+	t.Parallel()
 	const makes = threads + `local t = {} for i = 1, 5 do t[i] = create(function(a)
 		local sum = a for j = 1, 4 do sum = sum + yield(i, j, sum) if i == 4 and j == 3 then error("stop" .. sum, 0) end end return "end", i, sum end) end
 		local function go(i, v) print(resume(t[i], v)) end `
@@ -165,6 +170,7 @@ func TestEvaluateThreadsInAnyOrder(t *testing.T) {
 
 // Threads that are never ended: the call answers all the same.
 func TestEvaluateThreadsLeftWaiting(t *testing.T) {
+	t.Parallel()
 	for _, r := range [][2]string{
 		{"local t = {} for i = 1, 500 do t[i] = create(function() yield(i) write('no') end) resume(t[i]) end write('end')", "end"},
 		{"for i = 1, 500 do resume(create(yield)) end write('end')", "end"},
@@ -192,6 +198,7 @@ func TestEvaluateThreadsLeftWaiting(t *testing.T) {
 }
 
 func TestEvaluateThreadArguments(t *testing.T) {
+	t.Parallel()
 	for _, name := range strings.Fields("resume status close") {
 		for v, kind := range map[string]string{"": "no value", "nil": "nil", "1": "number", "'x'": "string", "true": "boolean", "{}": "table", "print": "function", "type": "function"} {
 			fails(t, "coroutine."+name+"("+v+")", "1: bad argument #1 to 'coroutine."+name+"' (thread expected, got "+kind+")")

@@ -11,6 +11,7 @@ import (
 const counted = "local function none() end local function one() return 1 end local function three() return 1, 2, 3 end local function all(...) return ... end "
 
 func TestEvaluateNumbersOfValues(t *testing.T) {
+	t.Parallel()
 	eachLine(t, counted, `
 		none() =>
 		one() => 1
@@ -107,6 +108,7 @@ func TestEvaluateNumbersOfValues(t *testing.T) {
 }
 
 func TestEvaluateManyResults(t *testing.T) {
+	t.Parallel()
 	for _, count := range []int{0, 1, 99, 100, 101, 1000} {
 		limits := plenty()
 		got := ran(t, "local t = {} for i = 1, "+intLitText(count)+" do t[i] = i end return table.unpack(t)", limits)
@@ -130,6 +132,7 @@ func TestEvaluateManyResults(t *testing.T) {
 func intLitText(n int) string { return litText(intLit(n)) }
 
 func TestEvaluateTooManyValues(t *testing.T) {
+	t.Parallel()
 	const ahead = "local t = {} local function f(...) return select('#', ...) end local function up(n) return table.unpack(t, 1, n) end "
 	eachLine(t, ahead, `
 		f(up(999)) => 999
@@ -168,6 +171,7 @@ func TestEvaluateTooManyValues(t *testing.T) {
 }
 
 func TestEvaluateAndOrNot(t *testing.T) {
+	t.Parallel()
 	eachLine(t, "", `
 		nil and error() => nil
 		false and error() => false
@@ -209,6 +213,7 @@ func TestEvaluateAndOrNot(t *testing.T) {
 const said = "local function p(...) for i = 1, select('#', ...) do write(rawtostring((select(i, ...))), ' ') end return ... end "
 
 func TestEvaluateOrder(t *testing.T) {
+	t.Parallel()
 	for _, c := range [][2]string{
 		{"local x = p(1) + p(2) * p(3)", "1 2 3 "},
 		{"local x = (p(1) + p(2)) * p(3)", "1 2 3 "},
@@ -275,6 +280,7 @@ func numberForms() map[string]string {
 
 // Promise 2: what the functions of chapter 2 give is what a program gives.
 func TestEvaluateNumbersAsArith(t *testing.T) {
+	t.Parallel()
 	signs := strings.Fields("+ - * / % // ^ & | ~ << >>")
 	messages := map[int]string{impl.NumZero: "attempt to divide by zero", impl.NumRange: "exponent out of range", impl.NumWhole: "number has no integer representation"}
 	for a, left := range numberForms() {

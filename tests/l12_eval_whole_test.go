@@ -79,6 +79,7 @@ func TestEvaluateAtTheSameTime(t *testing.T) {
 
 // Chapter 1: answers own their memory.
 func TestEvaluateAnswersOwnTheirMemory(t *testing.T) {
+	t.Parallel()
 	for _, source := range []string{
 		"write('a long enough text') return 'a long enough text', 'a long enough text', ('a long enough text'):sub(1)",
 		"write('a long enough text') error('a long enough text', 0)",
@@ -170,6 +171,7 @@ func TestEvaluateLongAndDeepTexts(t *testing.T) {
 }
 
 func TestEvaluateWithAnyFrames(t *testing.T) {
+	t.Parallel()
 	for _, source := range modestTexts(40) {
 		for frames := 1; frames <= 12; frames++ {
 			limits := plenty()
