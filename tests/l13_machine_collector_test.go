@@ -222,3 +222,33 @@ func TestExecStopAndRestart(t *testing.T) {
 		}
 	}
 }
+
+// Credit is 0 behind the prelude: in a chunk without a Tick ahead, a cycle that is begun by hand isn't gone on with at the first
+// Tick, as what the text itself has made is less than a grain.
+func TestExecCreditAtTheBeginning(t *testing.T) {
+	t.Parallel()
+	const begin = "regs 9 line 1 dots consts \"collectgarbage\" \"step\"\n1: GetGlobal 0 0; Const 1 1; Int 2 1; Call 0 3 1; "
+	for _, r := range []struct {
+		more string
+		live int
+	}{
+		{"Tick; Return 0 1", firstLive},
+		// Five tables with the text's closure are 240 bytes, six are 280.
+		{"Table 3; Table 3; Table 3; Table 3; Table 3; Tick; Return 0 1", firstLive + 5},
+		{"Table 3; Table 3; Table 3; Table 3; Table 3; Table 3; Tick; Return 0 1", firstLive - 1 + 1},
+	} {
+		got := checkMachine(t, r.more, coded(t, begin+r.more), paced(100))
+		if got.Live != r.live {
+			t.Errorf("%s: %s, not %d", r.more, outcomeText(got), r.live)
+		}
+	}
+}
+
+// A step is brought to a million units, which is less than all the work of a great heap.
+func TestExecGreatestStep(t *testing.T) {
+	t.Parallel()
+	source := "local t = {} for i = 1, 120 do t[i] = {" + times("1,", 9000) + "} end return collectgarbage('step', math.maxinteger), collectgarbage('step', math.maxinteger)"
+	if got := impl.Exec(compiled(t, source), paced(0)); toldShort(got) != "= false true" {
+		t.Errorf("%s", outcomeText(got))
+	}
+}

@@ -291,3 +291,118 @@ func TestExecOfChangedCode(t *testing.T) {
 		t.Errorf("%v", codes)
 	}
 }
+
+// madeHead calls functions, which are made of instructions at random, with values of all kinds.
+const madeHead = `local u1, u2, u3 = 1, {}, 3
+local function f1(...) return u1, u2, u3 end
+local function f2(...) return u1, u2, u3 end
+local function f3(...) return u1, u2, u3 end
+local m = {} for _, e in next, {"index", "newindex", "add", "concat", "eq", "lt", "le", "len", "call", "close", "gc"} do m["__" .. e] = function(a, b, c) write(e, " ") if b == 3 then error(e) end return b, c, u1 end end
+local o = setmetatable({5, 6}, m)
+local V = {1, 2.5, "x", true, {7, 8, x = 9}, o, type, function(...) return ... end, coroutine.create(print), setmetatable({}, {__mode = "v"}), 3, false, 0, -1, next, f1, f2, f3, math.huge}
+local function p(...) for i = 1, select("#", ...) do local v = (select(i, ...)) write(type(v) == "table" and "t" or rawtostring(v), " ") end end
+for i = 1, #V do
+  p(pcall(f1, V[i], V[i * 7 % #V + 1], V[i * 3 % #V + 1], V[i * 5 % #V + 1], V[i * 11 % #V + 1]))
+  p(pcall(f2, V[i * 3 % #V + 1], V[i], i, i + 2, 1, V[i * 2 % #V + 1]))
+  p(coroutine.resume(coroutine.create(f3), i, 3, 1, V[i], V[i * 2 % #V + 1]))
+end
+p(u1, u2, u3)`
+
+// madeProto puts instructions at random into a function; what isn't safe of it is put right by safely.
+func (g *grower) madeProto(p *impl.Proto) {
+	p.Regs, p.Params, p.Dots = 7+g.pick(4), g.pick(6), g.pick(3) > 0
+	p.Consts = []impl.Const{{Kind: impl.NodeString, Text: "x"}, {Kind: impl.NodeString, Text: "len"}, {Kind: impl.NodeInt, Int: 70000}, {Kind: impl.NodeFloat, Bits: floatNumber(0.5).Bits}, {Kind: impl.NodeString, Text: "u"}}
+	p.Code, p.Lines = []impl.Instr{{Op: impl.InsTick}}, []int{1}
+	add := func(i impl.Instr) {
+		p.Code, p.Lines = append(p.Code, i), append(p.Lines, 1+g.pick(50))
+	}
+	r := func() int { return g.pick(p.Regs) }
+	for range 6 + g.pick(30) {
+		i := impl.Instr{Op: knownOps()[g.pick(len(knownOps()))], A: r(), B: r(), C: r()}
+		switch i.Op {
+		case impl.InsConst, impl.InsGetGlobal, impl.InsSetGlobal, impl.InsSetField, impl.InsGetUp, impl.InsSetUp, impl.InsClosure, impl.InsBool:
+			i.B = g.pick(3)
+		case impl.InsGetField, impl.InsSelf:
+			i.C = g.pick(2)
+		case impl.InsJump, impl.InsJumpIf, impl.InsJumpNot, impl.InsForPrep, impl.InsForLoop, impl.InsEachLoop:
+			i.B = len(p.Code) + 1 + g.pick(6)
+			if g.pick(4) == 0 {
+				i.B = g.pick(len(p.Code))
+			}
+		case impl.InsReturn:
+			i = impl.Instr{Op: impl.InsTick}
+		case impl.InsCall, impl.InsDots:
+			if g.pick(2) == 0 {
+				i.A, i.B, i.C = 2+g.pick(p.Regs-2), 1+g.pick(3), 0
+				if i.Op == impl.InsDots {
+					i.B = 0
+				}
+				add(i)
+				i = impl.Instr{Op: []int{impl.InsCall, impl.InsTail, impl.InsSetList, impl.InsReturn}[g.pick(4)], A: g.pick(i.A), C: 1 + g.pick(3)}
+				if i.Op == impl.InsSetList {
+					i.B, i.C = 1+g.pick(4), 0
+				}
+			}
+		}
+		add(i)
+		if g.pick(12) == 0 {
+			add(impl.Instr{Op: impl.InsTick})
+		}
+	}
+	add(impl.Instr{Op: impl.InsReturn, A: r(), B: 1 + g.pick(3)})
+}
+
+// safely puts another instruction in the place of each that isn't safe.
+func safely(t *testing.T, chunk impl.Chunk) impl.Chunk {
+	for {
+		verdict := impl.Verify(chunk)
+		if verdict.Code == 0 {
+			return chunk
+		}
+		if verdict.Code == impl.ChunkShape {
+			t.Errorf("%+v", verdict)
+			return compiledPlain
+		}
+		p := chunk.Protos[verdict.Proto]
+		p.Code[verdict.At] = impl.Instr{Op: impl.InsTick}
+		if verdict.At == len(p.Code)-1 {
+			p.Code[verdict.At] = impl.Instr{Op: impl.InsReturn, B: 1}
+		}
+	}
+}
+
+// compiledPlain is a chunk that does nothing.
+var compiledPlain = impl.Chunk{Protos: []impl.Proto{{Regs: 1, Dots: true, Code: []impl.Instr{{Op: impl.InsReturn, B: 1}}, Lines: []int{1}}}}
+
+func TestExecOfMadeCode(t *testing.T) {
+	t.Parallel()
+	const count, each = 2500, 600
+	chance := words(count*7 + each)
+	chunk := compiled(t, madeHead)
+	var lock sync.Mutex
+	codes, output := map[int]int{}, 0
+	ops := map[int]int{}
+	inParallel(count, func(i int) {
+		g := grower{chance: chance[7*i : 7*i+each]}
+		made := copyChunk(chunk)
+		for n := range 3 {
+			g.madeProto(&made.Protos[n])
+		}
+		made = safely(t, made)
+		limits := heapLimits(i)
+		got := checkMachine(t, codeText(impl.Chunk{Protos: made.Protos[:3]}), made, limits)
+		lock.Lock()
+		defer lock.Unlock()
+		codes[got.Code]++
+		output += len(got.Output)
+		for _, p := range made.Protos[:3] {
+			for _, instr := range p.Code {
+				ops[instr.Op]++
+			}
+		}
+	})
+	t.Log(codes, output, len(ops))
+	if codes[0] < 800 || output < 100000 || len(ops) != len(knownOps()) {
+		t.Errorf("%v, %d bytes put out, %d kinds of instructions", codes, output, len(ops))
+	}
+}

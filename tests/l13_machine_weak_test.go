@@ -46,7 +46,7 @@ func TestExecWeakTables(t *testing.T) {
 		{"local o = setmetatable({}, {__gc = function(o) write(rawtostring(w[o])) end}) w[o] = 1", "write(n(w)) write('-')", "1-", "11-", "1-", "11-"},
 		{"local o = setmetatable({}, {__gc = function(o) write(rawtostring(w[o])) end}) w[o] = 1", "collectgarbage() collectgarbage() write(n(w))", "1", "10", "1", "10"},
 	} {
-		for _, m := range [][2]string{{"nil", r.strong}, {"'k'", r.keys}, {"'v'", r.values}, {"'kv'", r.both}, {"'vk'", r.both}, {"'xvyk'", r.both}, {"''", r.strong}, {"'K'", r.strong}, {"5", r.strong}, {"true", r.strong}, {"'kk'", r.keys}} {
+		for _, m := range [][2]string{{"nil", r.strong}, {"'k'", r.keys}, {"'v'", r.values}, {"'kv'", r.both}, {"'vk'", r.both}, {"'xvyk'", r.both}, {"''", r.strong}, {"'K'", r.strong}, {"5", r.strong}, {"true", r.strong}, {"table.unpack", r.strong}, {"'kk'", r.keys}} {
 			comesOut(t, weakly(m[0], r.set, r.then), m[1]+" =")
 		}
 	}
