@@ -43,6 +43,7 @@ func checkAnew(t *testing.T, source string) string {
 	if twice, fault := impl.Format(text); fault != (impl.Fault{}) || twice != text {
 		t.Errorf("%q is written as %q, and this as %q, %+v", source, text, twice, fault)
 	}
+	checkShorterText(t, source)
 	return text
 }
 

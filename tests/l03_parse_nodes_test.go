@@ -63,6 +63,7 @@ func checkNodes(t *testing.T, source, want string) {
 	if got := treeText(tree); got != bare(want) {
 		t.Errorf("Parse(%q) has the nodes\n%s\nwant\n%s", source, got, bare(want))
 	}
+	checkShorterText(t, source)
 }
 
 // checkValue looks at the nodes of an expression; lines and places count from where it begins.

@@ -40,6 +40,7 @@ func checkNoScopeFault(t *testing.T, texts ...string) {
 	t.Helper()
 	for _, source := range texts {
 		checkScopeFault(t, source, impl.Fault{})
+		checkShorterText(t, source)
 		checkScopeFault(t, "while a do "+source+" end", impl.Fault{})
 		checkScopeFault(t, "local function zz(...) "+source+" end", impl.Fault{})
 	}

@@ -313,6 +313,7 @@ func checkScopeByModel(t *testing.T, source string) int {
 	if fault != (impl.Fault{}) || fmt.Sprintf("%+v", s) != fmt.Sprintf("%+v", v.scoped) {
 		t.Errorf("Scope(%.2000q) is\n%+v, %+v, want\n%+v", source, s, fault, v.scoped)
 	}
+	checkShorterText(t, source)
 	return 0
 }
 

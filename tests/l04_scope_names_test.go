@@ -82,6 +82,7 @@ func checkScope(t *testing.T, source, uses string, functions ...string) {
 	if !ok || gotUses != uses || !slices.Equal(gotFunctions, functions) {
 		t.Errorf("Scope(%q)\nhas the uses %s\nwant          %s\nand functions %q\nwant          %q\nat their nodes: %v", source, gotUses, uses, gotFunctions, functions, ok)
 	}
+	checkShorterText(t, source)
 }
 
 // checkNames looks at a text with no function but its own.

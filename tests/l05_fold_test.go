@@ -18,6 +18,7 @@ func checkFold(t *testing.T, source, want string) {
 	if fault != (impl.Fault{}) || treeText(tree) != bare(want) {
 		t.Errorf("Fold(%q) tells %+v and has the nodes\n%s\nwant\n%s", source, fault, treeText(tree), bare(want))
 	}
+	checkShorterText(t, source)
 }
 
 // checkFolded looks at the folded nodes of an expression; lines and places count from where it begins.

@@ -649,5 +649,8 @@ func checkCodeByModel(t *testing.T, source string) int {
 	if told != fault || fmt.Sprintf("%+v", got) != fmt.Sprintf("%+v", want) {
 		t.Errorf("Compile(%.2000q) is %+v,\n%s\nwant %+v,\n%s", source, told, codeText(got), fault, codeText(want))
 	}
+	if told.Code == 0 {
+		checkShorter(t, source, got)
+	}
 	return fault.Code
 }

@@ -71,6 +71,9 @@ func checkExec(t *testing.T, source string, limits impl.Limits, want impl.Outcom
 	if !sameBut(got, want) {
 		t.Errorf("%s\n%s, the machine:\n%s", short(source), outcomeText(want), outcomeText(got))
 	}
+	if again := impl.Exec(checkShorter(t, source, chunk), limits); !sameOutcome(again, got) {
+		t.Errorf("%s\n%s, made shorter:\n%s", short(source), outcomeText(got), outcomeText(again))
+	}
 	if want.Code == impl.OutBudget {
 		return
 	}
@@ -107,6 +110,7 @@ func checkMachine(t *testing.T, name string, chunk impl.Chunk, limits impl.Limit
 			short(name), limits, len(events), len(wanted), at, eventsText(events[at:min(at+5, len(events))]), eventsText(wanted[at:min(at+5, len(wanted))]))
 	}
 	checkEvents(t, name, events, got)
+	checkSameTrace(t, name, checkShorter(t, name, chunk), limits, events, got)
 	return got
 }
 
