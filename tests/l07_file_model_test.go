@@ -213,6 +213,9 @@ func checkThereAndBack(t *testing.T, c impl.Chunk) []byte {
 	if again, code := impl.WriteChunk(read); code != 0 || !bytes.Equal(again, file) {
 		t.Fatalf("the file %.500x is laid down again as %.500x, with code %d", file, again, code)
 	}
+	if code := checkListed(t, "a chunk that can be laid down", c); code == impl.ChunkBytes {
+		t.Errorf("List refuses\n%.500s", codeText(c))
+	}
 	return file
 }
 
@@ -221,6 +224,9 @@ func checkNotWritten(t *testing.T, what string, c impl.Chunk) {
 	t.Helper()
 	if file, code := impl.WriteChunk(c); code != impl.ChunkBytes || len(file) != 0 {
 		t.Errorf("%s: WriteChunk tells %d and %d bytes, want %d and none", what, code, len(file), impl.ChunkBytes)
+	}
+	if text, code := impl.List(c); code != impl.ChunkBytes || text != "" {
+		t.Errorf("%s: List tells %d and %s, want %d", what, code, short(text), impl.ChunkBytes)
 	}
 	if _, ok := modelFile(c); ok {
 		t.Errorf("%s: the model writes it", what)

@@ -207,6 +207,11 @@ func checkMadeShort(t *testing.T, name string, chunk, got impl.Chunk) {
 		t.Errorf("%s: from its file comes\n%.3000s\nnot\n%.3000s", short(name), codeText(back), codeText(got))
 	}
 	checkNoLonger(t, name, chunk, got)
+	for _, safe := range []impl.Chunk{chunk, got} {
+		if code := checkListed(t, name, safe); code != 0 && code != impl.ListLarge {
+			t.Errorf("%s: List tells %d of\n%.3000s", short(name), code, codeText(safe))
+		}
+	}
 }
 
 // checkNoLonger looks that each function of the shorter chunk is one of the longer in order, with no more of anything.
