@@ -511,12 +511,21 @@ func modelEvaluate(source string, limits impl.Limits) impl.Outcome {
 	return m.tells(m.textFunction(source))
 }
 
-// tells calls the function of a text, and tells what has come of it.
+// tells calls the function of a text, and tells what has come of it, when no thread waits any more.
 func (m *runModel) tells(text *runFunction) impl.Outcome {
-	values, out := m.main.call(text, nil)
+	defer m.stopThreads()
+	return m.tellsOne(text)
+}
+
+func (m *runModel) stopThreads() {
 	for _, th := range m.begun {
 		th.stop()
 	}
+}
+
+// tellsOne is one text of perhaps several.
+func (m *runModel) tellsOne(text *runFunction) impl.Outcome {
+	values, out := m.main.call(text, nil)
 	told := impl.Outcome{Output: m.output.String(), Ticks: m.ticks, Made: m.made}
 	switch {
 	case out != nil && out.kind == outByError:

@@ -83,7 +83,8 @@ type runModel struct {
 	main           *runThread
 	resumed        []*runThread // inside each other, the main one first
 	begun          []*runThread
-	heap           *runHeap // none below the evaluator
+	heap           *runHeap         // none below the evaluator
+	looks          func(c *runCall) // asked at each Tick, if there is one
 }
 
 func (m *runModel) number(kind string) int {

@@ -41,6 +41,8 @@ func ran(t *testing.T, source string, limits impl.Limits) impl.Outcome {
 		checkBudget(t, source, limits, got)
 	}
 	checkExec(t, source, limits, got)
+	limits.Pace = paces()[(len(source)+1)%len(paces())]
+	checkRun(t, source, limits)
 	return got
 }
 

@@ -59,14 +59,15 @@ func (m *runModel) chunkFunction(chunk impl.Chunk) *runFunction {
 	return m.newCode(chunk, len(chunk.Protos)-1, nil)
 }
 
-// modelExec is Exec and Trace of a safe chunk, with limits that are right.
-func modelExec(chunk impl.Chunk, limits impl.Limits) (impl.Outcome, []impl.Event) {
+// modelExec is Exec and Trace of a safe chunk, and the stops of Debug at some lines, with limits that are right.
+func modelExec(chunk impl.Chunk, limits impl.Limits, lines ...int) (impl.Outcome, []impl.Event, []impl.Stop) {
 	h := newRunHeap()
 	m := newRunModel(limits, h)
 	h.begin(m)
+	stops := m.looksAt(lines)
 	told := m.tells(m.chunkFunction(chunk))
 	told.Live, told.Bytes = h.live(), h.bytes()
-	return told, h.events[:min(len(h.events), impl.MaxEvents)]
+	return told, h.events[:min(len(h.events), impl.MaxEvents)], *stops
 }
 
 func (th *runThread) carryOut(f *runFunction, args []any, kind int) *wayOut {
@@ -222,6 +223,9 @@ func (c *runCall) plainInstruction(i impl.Instr) *wayOut {
 			return out
 		}
 		m.heap.tell(c.thread, impl.EventStep, c.line)
+		if m.looks != nil {
+			m.looks(c)
+		}
 		return c.thread.collectorsTurn()
 	case impl.InsMove:
 		c.regs[i.A] = c.regs[i.B]

@@ -178,6 +178,7 @@ func TestExecOfRandomHeaps(t *testing.T) {
 		}
 		limits := heapLimits(i)
 		got := checkMachine(t, strings.TrimPrefix(texts[i], heapHead), chunk, limits)
+		checkOutcome(t, texts[i], impl.Run(texts[i], limits), got)
 		events, _ := impl.Trace(chunk, limits)
 		lock.Lock()
 		defer lock.Unlock()
@@ -215,7 +216,8 @@ func TestExecOfRandomPrograms(t *testing.T) {
 		if i%10 == 0 {
 			limits.Memory = 16000
 		}
-		checkMachine(t, behindHead(texts[i]), chunk, limits)
+		got := checkMachine(t, behindHead(texts[i]), chunk, limits)
+		checkOutcome(t, texts[i], impl.Run(texts[i], limits), got)
 	})
 }
 

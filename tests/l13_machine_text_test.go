@@ -71,6 +71,9 @@ func checkExec(t *testing.T, source string, limits impl.Limits, want impl.Outcom
 	if !sameBut(got, want) {
 		t.Errorf("%s\n%s, the machine:\n%s", short(source), outcomeText(want), outcomeText(got))
 	}
+	if run := impl.Run(source, limits); !sameOutcome(run, got) {
+		t.Errorf("%s\n%s, from its source:\n%s", short(source), outcomeText(got), outcomeText(run))
+	}
 	if again := impl.Exec(checkShorter(t, source, chunk), limits); !sameOutcome(again, got) {
 		t.Errorf("%s\n%s, made shorter:\n%s", short(source), outcomeText(got), outcomeText(again))
 	}
@@ -89,11 +92,12 @@ func checkExec(t *testing.T, source string, limits impl.Limits, want impl.Outcom
 	}
 }
 
-// checkMachine holds Exec and Trace of a safe chunk against the model, a second run, and promise 25.
+// checkMachine holds Exec, Trace and Debug of a safe chunk against the model, a second run, and promises 25 and 29.
 func checkMachine(t *testing.T, name string, chunk impl.Chunk, limits impl.Limits) impl.Outcome {
 	t.Helper()
 	got := impl.Exec(chunk, limits)
-	want, wanted := modelExec(chunk, limits)
+	lines := someLines(chunk, len(name))
+	want, wanted, looks := modelExec(chunk, limits, lines...)
 	if !sameOutcome(got, want) {
 		t.Errorf("%s with %+v\n%s, the model:\n%s", short(name), limits, outcomeText(got), outcomeText(want))
 	}
@@ -110,6 +114,7 @@ func checkMachine(t *testing.T, name string, chunk impl.Chunk, limits impl.Limit
 			short(name), limits, len(events), len(wanted), at, eventsText(events[at:min(at+5, len(events))]), eventsText(wanted[at:min(at+5, len(wanted))]))
 	}
 	checkEvents(t, name, events, got)
+	checkLooks(t, name, chunk, limits, lines, looks, events, got)
 	checkSameTrace(t, name, checkShorter(t, name, chunk), limits, events, got)
 	return got
 }
@@ -120,6 +125,7 @@ func execs(t *testing.T, source string) impl.Outcome {
 	chunk := compiled(t, source)
 	for _, pace := range slices.Backward(paces()) {
 		got := checkMachine(t, source, chunk, paced(pace))
+		checkRun(t, source, paced(pace))
 		if pace == 0 {
 			return got
 		}
