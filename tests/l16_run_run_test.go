@@ -227,19 +227,35 @@ func TestRunLongAndDeepTexts(t *testing.T) {
 	}
 }
 
-// Promise 24: the pace changes nothing but Live and Bytes where nothing hangs on it, and the outcome is that of Evaluate.
+// Promises 19 and 24: the pace changes nothing but Live and Bytes where nothing hangs on it, and the outcome is that of Evaluate.
 func TestRunAtEachPace(t *testing.T) {
 	t.Parallel()
-	texts := append(modestTexts(120), alone...)
-	for i, source := range texts {
+	texts := append(modestTexts(120), sourcesOfAllKinds(60)...)
+	freed := make([]int, len(texts))
+	inParallel(len(texts), func(i int) {
+		if hangsOnCollector(texts[i]) {
+			return
+		}
 		limits := someLimits(i)
-		want := impl.Evaluate(source, limits)
-		for _, pace := range []int{0, 1, 2, 7, 10, 50, 99, 100} {
+		want := impl.Evaluate(texts[i], limits)
+		first := impl.Run(texts[i], limits)
+		for pace := range impl.MaxPace + 1 {
+			// Every pace for some of the texts, a few for all.
+			if i%12 != 0 && !slices.Contains([]int{0, 1, 2, 7, 10, 50, 99, 100}, pace) {
+				continue
+			}
 			limits.Pace = pace
-			if got := impl.Run(source, limits); !sameBut(got, want) {
-				t.Errorf("%s\npace %d: %s\nevaluated: %s", behindHead(source), pace, outcomeText(got), outcomeText(want))
+			got := impl.Run(texts[i], limits)
+			if !sameBut(got, want) {
+				t.Errorf("%s\npace %d: %s\nevaluated: %s", behindHead(texts[i]), pace, outcomeText(got), outcomeText(want))
+			}
+			if got.Live < first.Live {
+				freed[i]++
 			}
 		}
+	})
+	if sumOf(freed) < 500 {
+		t.Errorf("the pace frees something but %d times", sumOf(freed))
 	}
 }
 
